@@ -1,0 +1,1 @@
+"""A player that reads paper as it comes."""
