@@ -19,10 +19,23 @@ KINDS = {
     "accent": (8, (1,)),
     "end": (9, ()),
 }
+KEY = 1
+LOCK = 4
+CANCEL = 5
+UP = 6
+DOWN = 7
+ACCENT = 8
+# These kinds have no numbers: each is one meaning.
+LOUD = (2, 0, 0)
+SOFT = (3, 0, 0)
+END = (9, 0, 0)
 
 
 class Bar:
-    """A bar; tracks says of each meaning (its kind, its two numbers) which track has it."""
+    """A bar; tracks says of each meaning (its kind, its two numbers) which track has it.
+
+    key_tracks are the keys that a track means, rising, each with its track.
+    """
 
     def __init__(self, width, split, tail):
         self.width = width
@@ -31,6 +44,13 @@ class Bar:
         self.force = ()
         self.swell = ()
         self.tracks = {}
+        self.key_tracks = []
+
+    def is_heard(self, meaning, sounding):
+        return self.tracks.get(meaning) in sounding
+
+    def side_of(self, key):
+        return 0 if key < self.split else 1
 
 
 def read_bar(text):
@@ -46,6 +66,7 @@ def read_bar(text):
     bar.force = read_three(reader, "force", MOST_FORCE)
     bar.swell = read_three(reader, "swell", MOST_SWELL)
     bar.tracks = read_tracks(reader, width)
+    bar.key_tracks = keys_in_order(bar.tracks)
     return bar
 
 
@@ -86,3 +107,7 @@ def read_new_meaning(reader, tracks):
     if meaning in tracks:
         raise Fault(start)
     return meaning
+
+
+def keys_in_order(tracks):
+    return sorted([(meaning[1], tracks[meaning]) for meaning in tracks if meaning[0] == KEY])

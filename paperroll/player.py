@@ -9,6 +9,8 @@ from paperroll.strips import read_strip
 OPENING = 1
 FEEDING = 2
 LAST = 3
+STEP = 4
+LEVER = 5
 # How many whole numbers each call has before its text.
 HOW_MANY_NUMBERS = {1: 4, 2: 0, 3: 0, 4: 2, 5: 1, 6: 0}
 CALLS_WITH_TEXT = (1, 2)
@@ -16,10 +18,6 @@ TAKEN = 0
 OUT_OF_RANGE = -1
 AT_FAULT = -6
 NO_PLAYER = -8
-
-
-class CallNotBuilt(Exception):
-    """The calls step, lever and now of an opened player are still to come."""
 
 
 class Holder:
@@ -61,11 +59,19 @@ def answer_call(holder, call):
         return answer_opening(holder, call)
     if holder.player is None:
         return [NO_PLAYER]
+    return answer_with_player(holder.player, call)
+
+
+def answer_with_player(player, call):
     if call.which == FEEDING:
-        return answer_feeding(holder.player, call.text)
+        return answer_feeding(player, call.text)
     if call.which == LAST:
-        return [holder.player.end_feeding()]
-    raise CallNotBuilt()
+        return [player.end_feeding()]
+    if call.which == STEP:
+        return answer_step(player, call.numbers)
+    if call.which == LEVER:
+        return [player.set_lever(call.numbers[0])]
+    return answer_with_list(TAKEN, player.now())
 
 
 def answer_opening(holder, call):
@@ -87,6 +93,16 @@ def answer_feeding(player, text):
     return [player.feed(strip)]
 
 
+def answer_step(player, numbers):
+    stepped = player.take_step(numbers[0], numbers[1])
+    told = []
+    for event in stepped[1]:
+        told.extend(event)
+    return answer_with_list(stepped[0], told)
+
+
 def answer_with_list(number, numbers):
+    if len(numbers) == 0:
+        return [number]
     # No text is ever answered: its length, 0, closes the answer.
     return [number, len(numbers)] + numbers + [0]

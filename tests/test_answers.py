@@ -1,7 +1,9 @@
 import unittest
 
-from paperroll.player import CallNotBuilt, answers
-from tests.helper import BAR, LAST, LEVER, NOW, SPOOL, STEP, STRIP, ask, fault, feeding, opening
+from paperroll.player import answers
+from tests.helper import (
+    BAR, GREATEST, LAST, LEVER, NOW, SPOOL, STEP, STEP_ON, STRIP, ask, fault, feeding, lever, opening, stepping,
+)
 
 
 class Unchangeable(list):
@@ -22,6 +24,31 @@ class FormOfAnswers(unittest.TestCase):
     def test_a_fault_is_four_numbers(self):
         self.assertEqual(answers(opening("bat")), [4, -6, 1, 2, 0])
         self.assertEqual(answers(opening() + feeding("strip x")), [1, 0, 4, -6, 1, 6, 0])
+
+    def test_a_step_has_its_count_where_an_event_is_told(self):
+        self.assertEqual(answers(opening() + STEP), [1, 0, 1, 1])
+        self.assertEqual(answers(opening() + feeding() + STEP), [1, 0, 1, 0, 8, 0, 5, 2, 60, 40, 0, 0, 0])
+        self.assertEqual(answers(opening() + feeding() + stepping(2, 2) + stepping(1, 9) + stepping(0, 0)),
+                         [1, 0, 1, 0, 13, 0, 10, 2, 60, 40, 0, 0, 2, 61, 40, 1, 10000, 0, 1, 0, 1, 0])
+
+    def test_a_lever_is_a_number_alone(self):
+        self.assertEqual(answers(opening() + LEVER + lever(0)), [1, 0, 1, 0, 1, -1])
+
+    def test_now_has_nine_numbers_and_tracks(self):
+        self.assertEqual(answers(opening() + NOW), [1, 0, 12, 0, 9, 0, 0, 0, 0, 0, 0, 0, 0, 0, 0])
+        self.assertEqual(answers(opening() + feeding() + stepping(2, 1) + NOW)[13:],
+                         [14, 0, 11, 2, 4, 1, 0, 10000, 0, 0, 0, 0, 0, 1, 0])
+
+    def test_all_six_calls(self):
+        self.assertEqual(
+            answers(opening() + feeding("strip 4\n1 3\n") + LAST + STEP_ON + LEVER + NOW),
+            [1, 0, 1, 0, 1, 0, 8, 2, 5, 7, 0, 0, 0, 0, 0, 1, 0, 13, 0, 10, 1, 0, 0, 2, 0, 0, 0, 0, 0, 3, 0],
+        )
+
+    def test_the_greatest_arguments(self):
+        self.assertEqual(ask(opening(), [4, GREATEST, GREATEST], [4, 0, GREATEST], [4, GREATEST, 0], [5, GREATEST]),
+                         [[0], [1], [0], [1], [-1]])
+        self.assertEqual(ask(opening(BAR, 4 * (GREATEST,))), [[-1]])
 
     def test_calls_are_answered_in_order(self):
         calls = LAST + opening() + feeding() + feeding("strip 4\n0") + LAST + LAST + feeding()
@@ -46,7 +73,8 @@ class FormOfAnswers(unittest.TestCase):
         self.assertEqual(ask(opening(text)), [fault(4)])
 
     def test_answers_are_plain_whole_numbers(self):
-        answered = answers(LAST + opening() + feeding() + LAST + LAST + feeding("") + opening("", (0, 0, 0, 0)))
+        answered = answers(NOW + opening() + NOW + feeding() + STEP + NOW + LEVER + lever(0) + LAST + STEP_ON + NOW + LAST
+                           + feeding("") + opening("", (0, 0, 0, 0)))
         self.assertIs(type(answered), list)
         for number in answered:
             self.assertIs(type(number), int)
@@ -76,18 +104,13 @@ class WithoutAPlayer(unittest.TestCase):
         self.assertEqual(ask(feeding("strip 4\n256\n"), opening(), feeding("strip 4\n256\n")), [[-8], [0], [0]])
 
 
-class NotBuiltYet(unittest.TestCase):
-    def test_calls_that_are_still_to_come(self):
-        for call in (STEP, LEVER, NOW):
-            with self.assertRaises(CallNotBuilt):
-                answers(opening() + call)
-
-
 class NothingIsChangedOrKept(unittest.TestCase):
     def setUp(self):
         self.calls = (
             LAST + opening("bar") + opening() + opening(BAR, (0, 0, 0, 0)) + feeding() + feeding("strip 4\n256\n")
-            + feeding("strip 5\n") + feeding("strip 4\n1 0\n1 0\n") + LAST + LAST + feeding() + opening() + feeding()
+            + STEP + NOW + LEVER + lever(0) + STEP_ON + NOW + feeding() + stepping(2, 1) + NOW
+            + feeding("strip 5\n") + feeding("strip 4\n1 0\n1 0\n") + LAST + LAST + feeding() + STEP_ON + NOW
+            + opening() + NOW + feeding() + STEP + LEVER + NOW
         )
 
     def test_what_is_handed_in_is_as_it_was(self):
@@ -106,7 +129,10 @@ class NothingIsChangedOrKept(unittest.TestCase):
 
     def test_each_list_begins_without_a_player(self):
         self.assertEqual(answers(opening() + LAST), [1, 0, 1, 0])
-        self.assertEqual(answers(LAST), [1, -8])
+        self.assertEqual(answers(opening() + feeding() + LEVER + STEP)[-3:], [0, 0, 0])
+        for call in (LAST, feeding(), STEP, LEVER, NOW):
+            self.assertEqual(answers(call), [1, -8])
+        self.assertEqual(ask(opening(), NOW)[1], [0, 9] + 10 * [0])
 
     def test_what_is_given_back_is_the_callers_own(self):
         once = answers(self.calls)

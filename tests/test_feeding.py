@@ -4,7 +4,10 @@ from paperroll.bars import read_bar
 from paperroll.playing import Player
 from paperroll.spools import Spool
 from paperroll.strips import Strip
-from tests.helper import BAR, HEAD, LAST, SPOOL, STRIP, ask, fault, feeding, numbers_of, opening, strip_of
+from tests.helper import (
+    BAR, HEAD, LAST, NOW, SPOOL, STEP_ON, STRIP, ask, fault, feeding, list_of, numbers_of, opening, stepping, strip_of,
+    strip_text,
+)
 
 OTHER_WIDTH = "strip 5\n"
 AT_FAULT = "strip 4\n0\n"
@@ -75,35 +78,62 @@ class Refused(unittest.TestCase):
 class RowsThatWereBegun(unittest.TestCase):
     """Rows that were begun don't wait any more, but count as fed."""
 
-    def setUp(self):
-        self.player = Player(read_bar(numbers_of(BAR)), Spool(SPOOL))
-
     def feed(self, how_many):
-        return self.player.feed(Strip(4, [()] * how_many))
+        return feeding(strip_text(4, how_many * [[]]))
 
     def test_only_waiting_rows_count_as_waiting(self):
-        self.assertEqual(self.feed(256), 0)
-        self.player.begun = 10
-        self.assertEqual(self.feed(11), -10)
-        self.assertEqual(self.feed(10), 0)
-        self.assertEqual(self.feed(1), -10)
+        answered = ask(opening(), self.feed(256), stepping(10), self.feed(11), self.feed(10), self.feed(1), stepping(1),
+                       self.feed(2), self.feed(1), self.feed(1))
+        self.assertEqual(answered, [[0], [0], [0], [-10], [0], [-10], [0], [-10], [0], [-10]])
+
+    def test_a_row_whose_events_are_untold_does_not_wait(self):
+        rows = strip_text(4, [[0]] + 255 * [[]])
+        self.assertEqual(ask(opening(), feeding(rows), self.feed(1), stepping(1, 0), self.feed(1), self.feed(1)),
+                         [[0], [0], [-10], [3], [0], [-10]])
 
     def test_at_most_512_fed(self):
-        self.assertEqual(self.feed(256), 0)
-        self.player.begun = 256
-        self.assertEqual(self.feed(255), 0)
-        self.player.begun = 500
-        self.assertEqual(self.feed(2), -10)
-        self.assertEqual(self.feed(1), 0)
-        self.assertEqual(self.feed(1), -10)
-        self.assertEqual(self.feed(0), 0)
+        answered = ask(opening(), self.feed(256), stepping(256), self.feed(255), stepping(244), self.feed(2), self.feed(1),
+                       self.feed(1), self.feed(0), STEP_ON, self.feed(1), self.feed(0), NOW)
+        self.assertEqual(answered[:-1], [[0], [0], [0], [0], [0], [-10], [0], [-10], [0], [1], [-10], [0]])
+        self.assertEqual(list_of(answered[-1])[:4], [512, 0, 0, 0])
 
-    def test_done(self):
-        self.player.done = True
-        self.assertEqual(self.feed(0), -4)
-        self.assertEqual(self.feed(257), -4)
-        self.assertEqual(self.player.feed(Strip(5, [])), -5)
-        self.assertEqual(self.player.end_feeding(), -4)
+    def test_rows_of_refused_strips_were_not_fed(self):
+        answered = ask(opening(), self.feed(200), stepping(200), self.feed(200), self.feed(200), stepping(200), self.feed(113),
+                       self.feed(112), self.feed(1))
+        self.assertEqual(answered, [[0], [0], [0], [0], [-10], [0], [-10], [0], [-10]])
+
+    def test_a_new_player_has_room_again(self):
+        full = [self.feed(256), STEP_ON, self.feed(256), STEP_ON]
+        self.assertEqual(ask(opening(), *full, self.feed(1), opening(), *full, self.feed(1)),
+                         2 * [[0], [0], [1], [0], [1], [-10]])
+
+
+class WhenDone(unittest.TestCase):
+    BY_ROWS = [opening(), feeding("strip 4\n1 0\n"), LAST, STEP_ON]
+    BY_END = [opening(), feeding("strip 4\n1 3\n9 0\n"), STEP_ON]
+
+    def test_feeding_and_last(self):
+        for calls in (self.BY_ROWS, self.BY_END):
+            answered = ask(*calls, feeding("strip 4\n"), feeding("strip 4\n256\n"), feeding(), LAST, LAST)
+            self.assertEqual(answered[-6][0], 2)
+            self.assertEqual(answered[-5:], 5 * [[-4]])
+
+    def test_refusals_that_come_before(self):
+        for calls in (self.BY_ROWS, self.BY_END):
+            self.assertEqual(ask(*calls, feeding(AT_FAULT), feeding(OTHER_WIDTH))[-2:], [fault(8), [-5]])
+
+    def test_refused_so_before_too_many_rows(self):
+        calls = [opening(), feeding("strip 4\n1 3\n255 0\n"), feeding("strip 4\n2\n"), STEP_ON, feeding("strip 4\n2\n")]
+        self.assertEqual([answer[0] for answer in ask(*calls)], [0, 0, -10, 2, -4])
+
+    def test_the_end_is_begun_but_not_told(self):
+        start = [opening(), feeding("strip 4\n1 3\n")]
+        self.assertEqual(ask(*start, stepping(1, 0), feeding(), LAST, LAST)[2:], [[3], [0], [0], [-4]])
+        self.assertEqual(ask(*start, stepping(1, 0), feeding(), stepping(0, 1), feeding(), LAST)[5:], [[-4], [-4]])
+
+    def test_open_in_place_of_what_was(self):
+        for calls in (self.BY_ROWS, self.BY_END):
+            self.assertEqual(ask(*calls, opening(), feeding(), LAST)[-3:], [[0], [0], [0]])
 
 
 class Last(unittest.TestCase):

@@ -40,6 +40,15 @@ def nodes():
     return [(f"{path.name}:{getattr(node, 'lineno', 0)}", node) for path, tree in trees() for node in ast.walk(tree)]
 
 
+def top_names(tree):
+    found = [node.name for node in tree.body if isinstance(node, (ast.FunctionDef, ast.ClassDef))]
+    return found + [node.targets[0].id for node in tree.body if isinstance(node, ast.Assign)]
+
+
+def imported_names(tree):
+    return [name.name for node in tree.body if isinstance(node, ast.ImportFrom) for name in node.names]
+
+
 class Language(unittest.TestCase):
     def test_files(self):
         self.assertTrue(FILES)
@@ -77,6 +86,41 @@ class Language(unittest.TestCase):
         for where, node in nodes():
             if isinstance(node, ast.ImportFrom):
                 self.assertTrue(node.level == 0 and node.module.startswith("paperroll."), where)
+
+    def test_no_two_files_draw_from_one_another(self):
+        drawn = {path.stem: [node.module.split(".")[1] for node in ast.walk(tree) if isinstance(node, ast.ImportFrom)]
+                 for path, tree in trees()}
+        while drawn:
+            free = [name for name in drawn if not set(drawn[name]) & set(drawn)]
+            self.assertTrue(free, drawn)
+            drawn = {name: drawn[name] for name in drawn if name not in free}
+
+    def test_imports_from_the_file_that_defines_the_name(self):
+        defined = {path.stem: top_names(tree) for path, tree in trees()}
+        for where, node in nodes():
+            if isinstance(node, ast.ImportFrom):
+                for name in node.names:
+                    self.assertIn(name.name, defined[node.module.split(".")[1]], where)
+                    self.assertIsNone(name.asname, where)
+
+    def test_each_name_once_at_the_top(self):
+        for path, tree in trees():
+            names = top_names(tree) + imported_names(tree)
+            self.assertEqual(len(names), len(set(names)), path)
+
+    def test_no_local_is_called_like_a_class_or_an_import(self):
+        for path, tree in trees():
+            taken = imported_names(tree) + [node.name for node in tree.body if isinstance(node, ast.ClassDef)]
+            for node in ast.walk(tree):
+                if isinstance(node, ast.arg):
+                    self.assertNotIn(node.arg, taken, path)
+                if isinstance(node, ast.Name) and isinstance(node.ctx, ast.Store):
+                    self.assertNotIn(node.id, taken, path)
+
+    def test_nothing_unused_is_drawn(self):
+        for path, tree in trees():
+            used = [node.id for node in ast.walk(tree) if isinstance(node, ast.Name)]
+            self.assertEqual([name for name in imported_names(tree) if name not in used], [], path)
 
     def test_names(self):
         for where, node in nodes():
